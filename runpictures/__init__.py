@@ -1,0 +1,1 @@
+"""Pictures told by their runs."""
