@@ -4,6 +4,7 @@ MOST_SIDE = 64
 MOST_RUNS = 64
 MOST_LENGTH = 64
 MOST_COLOUR = 7
+MOST_BYTES = 16384
 BLANK = 1
 
 
@@ -21,6 +22,18 @@ def line(runs, cells):
     found = cells_found(runs, cells, ahead, behind)
     changed = 1 if found != cells else 0
     return [changed, len(found)] + found + [1, many]
+
+
+def look(puzzle):
+    """The width, the height, and how many more squares the rows colour than the columns."""
+    if not within(len(puzzle), 1, MOST_BYTES):
+        return [-1]
+    told = lines_told(puzzle)
+    if told is None:
+        return [-2]
+    width = puzzle[0]
+    height = puzzle[1]
+    return [0, 3, width, height, squares_coloured(told[:height]) - squares_coloured(told[height:])]
 
 
 def within(number, low, high):
@@ -136,3 +149,31 @@ def mark_run(found, length, bit, ends):
         for at in range(max(done, end - length), end):
             found[at] = found[at] | bit
         done = end
+
+
+def lines_told(puzzle):
+    """The runs of each row, then of each column; None if the puzzle isn't as told."""
+    if len(puzzle) < 2 or not within(puzzle[0], 1, MOST_SIDE) or not within(puzzle[1], 1, MOST_SIDE):
+        return None
+    told = []
+    start = 2
+    while len(told) < puzzle[0] + puzzle[1]:
+        if start >= len(puzzle):
+            return None
+        end = start + 1 + 2 * puzzle[start]
+        if end > len(puzzle):
+            return None
+        runs = puzzle[start + 1:end]
+        if not runs_are_told(runs):
+            return None
+        told.append(runs)
+        start = end
+    return told if start == len(puzzle) else None
+
+
+def squares_coloured(told):
+    many = 0
+    for runs in told:
+        for at in range(0, len(runs), 2):
+            many += runs[at]
+    return many
