@@ -14,14 +14,11 @@ def line(runs, cells):
         return [-1]
     if not runs_are_told(runs) or 0 in cells:
         return [-2]
-    ahead = ways(runs, cells)
-    many = ahead["rows"][-1][-1]
-    if many == 0:
+    found = narrowed(runs, cells)
+    if found is None:
         return [-3]
-    behind = ways(runs_turned(runs), list(reversed(cells)))
-    found = cells_found(runs, cells, ahead, behind)
     changed = 1 if found != cells else 0
-    return [changed, len(found)] + found + [1, many]
+    return [changed, len(found)] + found + [1, lines_that_fit(runs, cells)]
 
 
 def look(puzzle):
@@ -33,11 +30,37 @@ def look(puzzle):
         return [-2]
     width = puzzle[0]
     height = puzzle[1]
-    return [0, 3, width, height, squares_coloured(told[:height]) - squares_coloured(told[height:])]
+    return [0, 3, width, height, sum(squares_coloured(told[:height])) - sum(squares_coloured(told[height:]))]
+
+
+def follow(puzzle, cells):
+    """What is left of the cells when no row and no column, each by itself, has more to say."""
+    fault = fault_of(puzzle, cells)
+    if fault < 0:
+        return [fault]
+    board = board_of(lines_told(puzzle), puzzle[0], puzzle[1])
+    size = puzzle[0] * puzzle[1]
+    found = settled(board, cells[:size], board["numbers"])
+    if found is None:
+        return [-3]
+    sure = [cell for cell in found if not is_open(cell)]
+    return [len(sure), len(cells)] + found + cells[size:]
 
 
 def within(number, low, high):
     return low <= number and number <= high
+
+
+def fault_of(puzzle, cells):
+    """What a puzzle or its cells are refused with; 0 if they are not."""
+    if not within(len(puzzle), 1, MOST_BYTES) or len(cells) > MOST_BYTES:
+        return -1
+    if lines_told(puzzle) is None:
+        return -2
+    size = puzzle[0] * puzzle[1]
+    if len(cells) < size:
+        return -5
+    return -2 if 0 in cells[:size] else 0
 
 
 def runs_are_told(runs):
@@ -46,109 +69,6 @@ def runs_are_told(runs):
         if not within(runs[at], 1, MOST_LENGTH) or not within(runs[at + 1], 1, MOST_COLOUR):
             return False
     return True
-
-
-def runs_turned(runs):
-    """The runs as they are met from the line's other end."""
-    turned = []
-    for at in range(len(runs) - 2, -1, -2):
-        turned.append(runs[at])
-        turned.append(runs[at + 1])
-    return turned
-
-
-def ways(runs, cells):
-    """In how many ways the first runs lie in the first cells.
-
-    rows[j][i]: the first j runs, and blanks else, fill the first i cells.
-    entries[j][i]: the same, where run j may also begin right at cell i.
-    """
-    rows = [row_without_run(cells)]
-    entries = []
-    for at in range(0, len(runs), 2):
-        apart = at > 0 and runs[at - 1] == runs[at + 1]
-        entry = entry_behind(rows[-1], cells, apart)
-        entries.append(entry)
-        rows.append(row_with_run(entry, runs[at], stretches(cells, runs[at + 1]), cells))
-    return {"rows": rows, "entries": entries}
-
-
-def row_without_run(cells):
-    row = [1]
-    for cell in cells:
-        row.append(row[-1] if cell & BLANK else 0)
-    return row
-
-
-def entry_behind(row, cells, apart):
-    """The ways of the row, but those alone that end with a blank where runs must stay apart."""
-    if not apart:
-        return list(row)
-    entry = [0]
-    for at, cell in enumerate(cells):
-        entry.append(row[at] if cell & BLANK else 0)
-    return entry
-
-
-def row_with_run(entry, length, reach, cells):
-    row = [0]
-    for end in range(1, len(cells) + 1):
-        many = row[-1] if cells[end - 1] & BLANK else 0
-        if reach[end] >= length:
-            many += entry[end - length]
-        row.append(many)
-    return row
-
-
-def stretches(cells, colour):
-    """For each place how many cells side by side, up to it, allow the colour."""
-    reach = [0]
-    for cell in cells:
-        reach.append(reach[-1] + 1 if cell & (1 << colour) else 0)
-    return reach
-
-
-def cells_found(runs, cells, ahead, behind):
-    """Each cell with those bits alone that its square has in some line that fits."""
-    found = [BLANK if blank_stands(at, cells, ahead["rows"], behind["rows"]) else 0 for at in range(len(cells))]
-    last = len(ahead["entries"]) - 1
-    for number, entry in enumerate(ahead["entries"]):
-        length = runs[2 * number]
-        colour = runs[2 * number + 1]
-        ends = run_ends(length, stretches(cells, colour), entry, behind["entries"][last - number])
-        mark_run(found, length, 1 << colour, ends)
-    return found
-
-
-def blank_stands(at, cells, rows_ahead, rows_behind):
-    """Whether the square is blank in some line that fits, however the runs are shared out round it."""
-    if not cells[at] & BLANK:
-        return False
-    rest = len(cells) - 1 - at
-    last = len(rows_ahead) - 1
-    for number, row in enumerate(rows_ahead):
-        if row[at] > 0 and rows_behind[last - number][rest] > 0:
-            return True
-    return False
-
-
-def run_ends(length, reach, entry_ahead, entry_after):
-    """The places behind a run's last square, in the lines that fit, in order."""
-    size = len(reach) - 1
-    ends = []
-    for end in range(length, size + 1):
-        if reach[end] >= length and entry_ahead[end - length] > 0 and entry_after[size - end] > 0:
-            ends.append(end)
-    return ends
-
-
-def mark_run(found, length, bit, ends):
-    # Places overlap: what an earlier one marked is not walked again.
-    done = 0
-    for end in ends:
-        for at in range(max(done, end - length), end):
-            found[at] = found[at] | bit
-        done = end
 
 
 def lines_told(puzzle):
@@ -172,8 +92,161 @@ def lines_told(puzzle):
 
 
 def squares_coloured(told):
-    many = 0
+    """How many squares of each colour these lines have."""
+    many = [0] * (MOST_COLOUR + 1)
     for runs in told:
         for at in range(0, len(runs), 2):
-            many += runs[at]
+            many[runs[at + 1]] += runs[at]
     return many
+
+
+def apart(runs, at):
+    """Whether a blank must lie between a run and the one ahead of it."""
+    return 0 < at and at < len(runs) and runs[at - 1] == runs[at + 1]
+
+
+def places_allowed(cells, square):
+    """Where the square may stand. Places are the bits of one number, so that all of them are moved at once."""
+    return sum([((cell >> square) & 1) << at for at, cell in enumerate(cells)])
+
+
+def room_for(cells, length, colour):
+    """Where a run may begin, by the cells that it would cover."""
+    places = places_allowed(cells, colour)
+    room = places
+    for step in range(1, length):
+        room = room & (places >> step)
+    return room
+
+
+def lines_that_fit(runs, cells):
+    """How many lines fit; row[i] says in how many ways the runs so far, and blanks else, fill the first i cells."""
+    blank = places_allowed(cells, 0)
+    row = summed_over_blanks([1] + [0] * len(cells), blank)
+    for at in range(0, len(runs), 2):
+        if apart(runs, at):
+            row = moved(row, blank, 1)
+        room = room_for(cells, runs[at], runs[at + 1])
+        row = summed_over_blanks(moved(row, room, runs[at]), blank)
+    return row[-1]
+
+
+def moved(row, places, step):
+    """The numbers that stand at these places, so many places further on."""
+    kept = [many if (places >> at) & 1 else 0 for at, many in enumerate(row)]
+    return ([0] * step + kept)[:len(row)]
+
+
+def summed_over_blanks(row, blank):
+    summed = [row[0]]
+    for at, many in enumerate(row[1:]):
+        summed.append(many + summed[-1] if (blank >> at) & 1 else many)
+    return summed
+
+
+def narrowed(runs, cells):
+    """Each cell with those bits alone that its square has in some line that fits; None if none fits."""
+    blank = places_allowed(cells, 0)
+    ahead = places_ahead(runs, cells, blank)
+    if not (ahead["ends"][-1] >> len(cells)) & 1:
+        return None
+    found = [0] * len(cells)
+    for square, places in enumerate(places_met(runs, ahead, blank, len(cells))):
+        for at in range(places.bit_length()):
+            if (places >> at) & 1:
+                found[at] = found[at] | (1 << square)
+    return found
+
+
+def places_ahead(runs, cells, blank):
+    """Where each run may begin, and how many cells the runs up to it can fill with blanks, by what is ahead alone."""
+    begins = []
+    ends = [over_blanks(1, blank)]
+    for at in range(0, len(runs), 2):
+        begin = (ends[-1] & blank) << 1 if apart(runs, at) else ends[-1]
+        begins.append(begin & room_for(cells, runs[at], runs[at + 1]))
+        ends.append(over_blanks(begins[-1] << runs[at], blank))
+    return {"begins": begins, "ends": ends}
+
+
+def places_met(runs, ahead, blank, size):
+    """For blank and each colour where it stands in some line that fits, found from the line's end."""
+    met = [0] * (MOST_COLOUR + 1)
+    behind = back_over_blanks(1 << size, blank)
+    met[0] = ahead["ends"][-1] & blank & (behind >> 1)
+    for number in range(len(runs) // 2 - 1, -1, -1):
+        length = runs[2 * number]
+        colour = runs[2 * number + 1]
+        if apart(runs, 2 * number + 2):
+            behind = blank & (behind >> 1)
+        begins = ahead["begins"][number] & (behind >> length)
+        met[colour] = met[colour] | stretched(begins, length)
+        behind = back_over_blanks(begins, blank)
+        met[0] = met[0] | (ahead["ends"][number] & blank & (behind >> 1))
+    return met
+
+
+def over_blanks(places, blank):
+    """The places, and those that are reached from them over blanks."""
+    # The sum carries every place through its blanks at once, up to the first cell that is none.
+    return places | ((blank + (places & blank)) ^ blank)
+
+
+def back_over_blanks(places, blank):
+    """The places, and those from which they are reached over blanks."""
+    step = 1
+    while blank > 0:
+        places = places | (blank & (places >> step))
+        blank = blank & (blank >> step)
+        step = 2 * step
+    return places
+
+
+def stretched(places, length):
+    """The cells that runs of this length cover if they begin at these places."""
+    covered = places
+    for step in range(1, length):
+        covered = covered | (places << step)
+    return covered
+
+
+def is_open(cell):
+    """Whether more than one square is allowed."""
+    return cell & (cell - 1) > 0
+
+
+def board_of(told, width, height):
+    """A puzzle's lines, rows first: their runs, where their cells lie, and what was found of them so far."""
+    rows = [(row * width, row * width + width, 1) for row in range(height)]
+    columns = [(column, width * height, width) for column in range(width)]
+    return {"width": width, "height": height, "numbers": list(range(width + height)), "told": told,
+            "spans": rows + columns, "lines": [{} for runs in told]}
+
+
+def settled(board, cells, numbers):
+    """The cells when neither these lines nor those that they touch change one any more; None if a line never fits."""
+    cells = list(cells)
+    while numbers:
+        touched = {}
+        for number in numbers:
+            span = board["spans"][number]
+            before = tuple(cells[span[0]:span[1]:span[2]])
+            found = line_found(board, number, before)
+            if found is None:
+                return None
+            first_across = board["height"] if number < board["height"] else 0
+            for place, cell in enumerate(found):
+                if cell != before[place]:
+                    cells[span[0] + place * span[2]] = cell
+                    touched[first_across + place] = True
+        numbers = list(touched)
+    return cells
+
+
+def line_found(board, number, before):
+    """What a line makes of its cells; kept for this board, as the same cells come again and again."""
+    kept = board["lines"][number]
+    if before not in kept:
+        found = narrowed(board["told"][number], before)
+        kept[before] = None if found is None else tuple(found)
+    return kept[before]

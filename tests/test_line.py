@@ -6,21 +6,7 @@ import random
 import unittest
 
 from runpictures.squares import line
-from tests.helper import Untouched
-
-
-def runs_of(squares):
-    """The runs of a line of squares, as pairs side by side."""
-    runs = []
-    for colour, group in itertools.groupby(squares):
-        if colour:
-            runs += [len(list(group)), colour]
-    return runs
-
-
-def lines_allowed(cells):
-    """All the lines of which each square is one that its cell allows."""
-    return itertools.product(*[[bit for bit in range(8) if cell >> bit & 1] for cell in cells])
+from tests.helper import HandedIn, lines_allowed, runs_of
 
 
 def answers_by_listing(cells):
@@ -233,7 +219,8 @@ class Refusals(unittest.TestCase):
         self.assertEqual(line([0, 8], [0]), [-2])
 
 
-class HandedIn(unittest.TestCase):
+class TheLists(HandedIn, unittest.TestCase):
+    FUNCTION = line
     CALLS = [
         ([3, 1], [3, 3, 3, 3]),
         ([1, 1, 1, 2] * 16, [7] * 64),
@@ -242,33 +229,6 @@ class HandedIn(unittest.TestCase):
         ([1, 1], [0]),
         ([1, 1], []),
     ]
-
-    def test_the_lists_stay_as_they_were(self):
-        for runs, cells in self.CALLS:
-            runs_given = Untouched(runs)
-            cells_given = Untouched(cells)
-            line(runs_given, cells_given)
-            self.assertEqual(list(runs_given), runs)
-            self.assertEqual(list(cells_given), cells)
-
-    def test_a_second_call_answers_as_the_first(self):
-        first = [line(list(runs), list(cells)) for runs, cells in self.CALLS]
-        second = [line(list(runs), list(cells)) for runs, cells in reversed(self.CALLS)]
-        self.assertEqual(first, second[::-1])
-
-    def test_an_answer_that_is_changed_changes_no_later_one(self):
-        for runs, cells in self.CALLS:
-            first = line(runs, cells)
-            kept = list(first)
-            first.append(9)
-            first[0] = 7
-            self.assertEqual(line(runs, cells), kept)
-
-    def test_an_answer_holds_whole_numbers_alone(self):
-        for runs, cells in self.CALLS:
-            answer = line(runs, cells)
-            self.assertIs(type(answer), list)
-            self.assertEqual({type(number) for number in answer}, {int})
 
 
 if __name__ == "__main__":

@@ -4,28 +4,10 @@ import random
 import unittest
 
 from runpictures.squares import look
-from tests.helper import Untouched
-
-
-def told(rows, columns):
-    """The puzzle of these rows and columns, each a list of pairs (length, colour)."""
-    puzzle = [len(columns), len(rows)]
-    for runs in rows + columns:
-        puzzle.append(len(runs))
-        for length, colour in runs:
-            puzzle += [length, colour]
-    return puzzle
-
+from tests.helper import HandedIn, longest, told
 
 # Three squares wide and two high: a run of two in the row above, a run of one in the row below.
 PLAIN = [3, 2, 1, 2, 1, 1, 1, 2, 1, 1, 1, 2, 1, 1, 1, 2, 0]
-
-
-def longest():
-    """A puzzle of 16384 bytes: 63 rows of 64 runs and one of 63, 63 columns of 64 runs and one of none."""
-    rows = [[(1, 1), (1, 7)] * 32 for row in range(63)] + [[(1, 3)] * 63]
-    columns = [[(1, 2)] * 64 for column in range(63)] + [[]]
-    return told(rows, columns)
 
 
 class Ordinary(unittest.TestCase):
@@ -164,33 +146,10 @@ class NotAsTold(unittest.TestCase):
         self.assertEqual(look([1, 1, 1, 65, 1, 0, 0]), [-2])
 
 
-class HandedIn(unittest.TestCase):
-    CALLS = [PLAIN, [1, 1, 0, 0], longest(), [], [0] * 16400, [1], PLAIN + [0], [1, 1, 1, 65, 1, 0]]
-
-    def test_the_list_stays_as_it_was(self):
-        for puzzle in self.CALLS:
-            given = Untouched(puzzle)
-            look(given)
-            self.assertEqual(list(given), puzzle)
-
-    def test_a_second_call_answers_as_the_first(self):
-        first = [look(list(puzzle)) for puzzle in self.CALLS]
-        second = [look(list(puzzle)) for puzzle in reversed(self.CALLS)]
-        self.assertEqual(first, second[::-1])
-
-    def test_an_answer_that_is_changed_changes_no_later_one(self):
-        for puzzle in self.CALLS:
-            first = look(puzzle)
-            kept = list(first)
-            first.append(9)
-            first[0] = 7
-            self.assertEqual(look(puzzle), kept)
-
-    def test_an_answer_holds_whole_numbers_alone(self):
-        for puzzle in self.CALLS:
-            answer = look(puzzle)
-            self.assertIs(type(answer), list)
-            self.assertEqual({type(number) for number in answer}, {int})
+class TheLists(HandedIn, unittest.TestCase):
+    FUNCTION = look
+    CALLS = [(PLAIN,), ([1, 1, 0, 0],), (longest(),), ([],), ([0] * 16400,), ([1],), (PLAIN + [0],),
+             ([1, 1, 1, 65, 1, 0],)]
 
 
 if __name__ == "__main__":
