@@ -5,6 +5,8 @@ MOST_RUNS = 64
 MOST_LENGTH = 64
 MOST_COLOUR = 7
 MOST_BYTES = 16384
+MOST_SQUARES = 144
+MOST_PICTURES = 1000000
 BLANK = 1
 
 
@@ -35,7 +37,7 @@ def look(puzzle):
 
 def follow(puzzle, cells):
     """What is left of the cells when no row and no column, each by itself, has more to say."""
-    fault = fault_of(puzzle, cells)
+    fault = fault_of(puzzle, cells, MOST_SIDE * MOST_SIDE)
     if fault < 0:
         return [fault]
     board = board_of(lines_told(puzzle), puzzle[0], puzzle[1])
@@ -47,12 +49,26 @@ def follow(puzzle, cells):
     return [len(sure), len(cells)] + found + cells[size:]
 
 
+def picture(puzzle, cells, k):
+    """The squares of the k-th picture that fits, from 0 on."""
+    if not within(k, 0, MOST_PICTURES):
+        return [-1]
+    fault = fault_of(puzzle, cells, MOST_SQUARES)
+    if fault < 0:
+        return [fault]
+    narrow = narrow_board(puzzle, cells)
+    found = cells_of_picture(narrow["board"], narrow["cells"], narrow["order"], k)
+    if found is None:
+        return [-3]
+    return [0, len(found)] + [found[place].bit_length() - 1 for place in narrow["order"]]
+
+
 def within(number, low, high):
     return low <= number and number <= high
 
 
-def fault_of(puzzle, cells):
-    """What a puzzle or its cells are refused with; 0 if they are not."""
+def fault_of(puzzle, cells, most):
+    """What a puzzle of at most so many squares, or its cells, are refused with; 0 if they are not."""
     if not within(len(puzzle), 1, MOST_BYTES) or len(cells) > MOST_BYTES:
         return -1
     if lines_told(puzzle) is None:
@@ -60,6 +76,8 @@ def fault_of(puzzle, cells):
     size = puzzle[0] * puzzle[1]
     if len(cells) < size:
         return -5
+    if size > most:
+        return -6
     return -2 if 0 in cells[:size] else 0
 
 
@@ -220,7 +238,7 @@ def board_of(told, width, height):
     rows = [(row * width, row * width + width, 1) for row in range(height)]
     columns = [(column, width * height, width) for column in range(width)]
     return {"width": width, "height": height, "numbers": list(range(width + height)), "told": told,
-            "spans": rows + columns, "lines": [{} for runs in told]}
+            "spans": rows + columns, "lines": [{} for runs in told], "counts": {}}
 
 
 def settled(board, cells, numbers):
@@ -250,3 +268,103 @@ def line_found(board, number, before):
         found = narrowed(board["told"][number], before)
         kept[before] = None if found is None else tuple(found)
     return kept[before]
+
+
+def with_cell(board, cells, at, cell):
+    """The cells with this one in its place and all that follows from it; None if nothing fits then."""
+    changed = list(cells)
+    changed[at] = cell
+    return settled(board, changed, [at // board["width"], board["height"] + at % board["width"]])
+
+
+def narrow_board(puzzle, cells):
+    """The puzzle's board and its cells, turned if its rows are longer than its columns: short rows leave less to count.
+
+    order says where the squares, row by row as they were told, lie on that board.
+    """
+    width = puzzle[0]
+    height = puzzle[1]
+    told = lines_told(puzzle)
+    order = list(range(width * height))
+    if width <= height:
+        return {"board": board_of(told, width, height), "cells": cells[:len(order)], "order": order}
+    return {"board": board_of(told[height:] + told[:height], height, width),
+            "cells": column_by_column(cells[:len(order)], width), "order": column_by_column(order, height)}
+
+
+def column_by_column(cells, width):
+    turned = []
+    for column in range(width):
+        turned = turned + cells[column::width]
+    return turned
+
+
+def cells_of_picture(board, cells, order, k):
+    """The cells of the k-th picture, where squares are compared in this order; None if there are no more."""
+    told = board["told"]
+    # No line by itself can see this, and the search would see it last of all.
+    if squares_coloured(told[:board["height"]]) != squares_coloured(told[board["height"]:]):
+        return None
+    cells = settled(board, cells, board["numbers"])
+    if cells is None or count_up_to(board, cells, k + 1) <= k:
+        return None
+    for at in order:
+        while is_open(cells[at]):
+            lowest = cells[at] & -cells[at]
+            branch = with_cell(board, cells, at, lowest)
+            many = 0 if branch is None else count_up_to(board, branch, k + 1)
+            if many > k:
+                cells = branch
+            else:
+                k -= many
+                cells = with_cell(board, cells, at, cells[at] - lowest)
+    return cells
+
+
+def count_up_to(board, cells, enough):
+    """How many pictures fit; if there are enough, some number that isn't lower than that."""
+    levels = [{"key": None, "at": 0, "waiting": [cells], "many": 0}]
+    while True:
+        level = levels[-1]
+        if level["waiting"] and level["many"] < enough:
+            enter(board, levels, level["waiting"].pop())
+        elif len(levels) == 1:
+            return level["many"]
+        else:
+            levels.pop()
+            board["counts"][level["key"]] = level["many"]
+            levels[-1]["many"] += level["many"]
+
+
+def enter(board, levels, cells):
+    """Adds the cells' pictures to the last level, or lays a level upon it that will."""
+    level = levels[-1]
+    at = level["at"]
+    while at < len(cells) and not is_open(cells[at]):
+        at += 1
+    if at == len(cells):
+        level["many"] += 1
+        return
+    key = key_of(board["width"], cells, at)
+    if key in board["counts"]:
+        level["many"] += board["counts"][key]
+        return
+    levels.append({"key": key, "at": at, "waiting": branches(board, cells, at), "many": 0})
+
+
+def branches(board, cells, at):
+    """What follows from each square that the cell allows, the lowest last, as the last is taken up first."""
+    bits = [1 << square for square in range(MOST_COLOUR, -1, -1)]
+    found = [with_cell(board, cells, at, bit) for bit in bits if cells[at] & bit]
+    return [branch for branch in found if branch is not None]
+
+
+def key_of(width, cells, at):
+    """All that the pictures hang on from an open cell on, if none is open ahead of it.
+
+    That is the cells from there on, and of each column how many blanks it has ahead: as its runs come in the order
+    told, this says how far they have come. Whether the last of them may touch the next is seen by the cells, and
+    how far the open row has come by all the columns together.
+    """
+    blanks = [cells[column:at:width].count(BLANK) for column in range(width)]
+    return tuple(blanks + cells[at:])
