@@ -58,16 +58,38 @@ def summed_over_blanks(row, blank):
 
 def narrowed(runs, cells):
     """Each cell with those bits alone that its square has in some line that fits; None if none fits."""
-    blank = places_allowed(cells, 0)
-    ahead = places_ahead(runs, cells, blank)
-    if not (ahead["ends"][-1] >> len(cells)) & 1:
+    places = places_that_fit(runs, cells)
+    if places is None:
         return None
+    met = [places["blanks"]] + [0] * MOST_COLOUR
+    for number, begins in enumerate(places["begins"]):
+        colour = runs[2 * number + 1]
+        met[colour] = met[colour] | stretched(begins, runs[2 * number])
     found = [0] * len(cells)
-    for square, places in enumerate(places_met(runs, ahead, blank, len(cells))):
-        for at in range(places.bit_length()):
-            if (places >> at) & 1:
+    for square, covered in enumerate(met):
+        for at in range(covered.bit_length()):
+            if (covered >> at) & 1:
                 found[at] = found[at] | (1 << square)
     return found
+
+
+def places_that_fit(runs, cells):
+    """Where each run begins, and where blanks stand, in some line that fits; None if none fits."""
+    blank = places_allowed(cells, 0)
+    ahead = places_ahead(runs, cells, blank)
+    begins = ahead["begins"]
+    ends = ahead["ends"]
+    if not (ends[-1] >> len(cells)) & 1:
+        return None
+    behind = back_over_blanks(1 << len(cells), blank)
+    blanks = ends[-1] & blank & (behind >> 1)
+    for number in range(len(begins) - 1, -1, -1):
+        if apart(runs, 2 * number + 2):
+            behind = blank & (behind >> 1)
+        begins[number] = begins[number] & (behind >> runs[2 * number])
+        behind = back_over_blanks(begins[number], blank)
+        blanks = blanks | (ends[number] & blank & (behind >> 1))
+    return {"begins": begins, "blanks": blanks}
 
 
 def places_ahead(runs, cells, blank):
@@ -79,23 +101,6 @@ def places_ahead(runs, cells, blank):
         begins.append(begin & room_for(cells, runs[at], runs[at + 1]))
         ends.append(over_blanks(begins[-1] << runs[at], blank))
     return {"begins": begins, "ends": ends}
-
-
-def places_met(runs, ahead, blank, size):
-    """For blank and each colour where it stands in some line that fits, found from the line's end."""
-    met = [0] * (MOST_COLOUR + 1)
-    behind = back_over_blanks(1 << size, blank)
-    met[0] = ahead["ends"][-1] & blank & (behind >> 1)
-    for number in range(len(runs) // 2 - 1, -1, -1):
-        length = runs[2 * number]
-        colour = runs[2 * number + 1]
-        if apart(runs, 2 * number + 2):
-            behind = blank & (behind >> 1)
-        begins = ahead["begins"][number] & (behind >> length)
-        met[colour] = met[colour] | stretched(begins, length)
-        behind = back_over_blanks(begins, blank)
-        met[0] = met[0] | (ahead["ends"][number] & blank & (behind >> 1))
-    return met
 
 
 def over_blanks(places, blank):

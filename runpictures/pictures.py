@@ -1,7 +1,7 @@
 """Which pictures fit a board."""
 
-from runpictures.boards import board_of, is_open, settled, with_cell
-from runpictures.lines import MOST_COLOUR, squares_coloured
+from runpictures.boards import board_of, is_open, keep, kept, settled, with_cell
+from runpictures.lines import MOST_COLOUR, places_that_fit, squares_coloured
 
 BLANK = 1
 
@@ -27,24 +27,67 @@ def column_by_column(cells, width):
 
 def cells_of_picture(board, cells, order, k):
     """The cells of the k-th picture, where squares are compared in this order; None if there are no more."""
-    told = board["told"]
-    # No line by itself can see this, and the search would see it last of all.
-    if squares_coloured(told[:board["height"]]) != squares_coloured(told[board["height"]:]):
-        return None
-    cells = settled(board, cells, board["numbers"])
+    cells = looked_over(board, cells)
     if cells is None or count_up_to(board, cells, k + 1) <= k:
         return None
     for at in order:
         while is_open(cells[at]):
             lowest = cells[at] & -cells[at]
-            branch = with_cell(board, cells, at, lowest)
+            branch = with_cell_for_good(board, cells, at, lowest)
             many = 0 if branch is None else count_up_to(board, branch, k + 1)
             if many > k:
                 cells = branch
             else:
                 k -= many
-                cells = with_cell(board, cells, at, cells[at] - lowest)
+                cells = with_cell_for_good(board, cells, at, cells[at] - lowest)
     return cells
+
+
+def looked_over(board, cells):
+    """What the lines leave of the cells; None if it is plain without a search that no picture fits."""
+    found = settled(board, cells, board["numbers"])
+    return found if found is not None and cuts_agree(board, found) else None
+
+
+def with_cell_for_good(board, cells, at, cell):
+    """The same as with_cell, and what was counted from the cell's row on, or from one ahead of it, holds no more."""
+    for row in range(at // board["width"] + 1):
+        board["changes"][row] += 1
+    return with_cell(board, cells, at, cell)
+
+
+def cuts_agree(board, cells):
+    """Whether rows and columns can colour as many squares as one another ahead of every cut through the board.
+
+    No line by itself can see this, and the search would see it last of all.
+    """
+    height = board["height"]
+    spreads = [spread_of(board, cells, number) for number in board["numbers"]]
+    across = [cut_agrees(spreads[:height], board["told"][height:][:cut]) for cut in range(1, board["width"] + 1)]
+    along = [cut_agrees(spreads[height:], board["told"][:cut]) for cut in range(1, height + 1)]
+    return all(across) and all(along)
+
+
+def spread_of(board, cells, number):
+    """Of each run of a line: its length, its colour, and where it begins at the earliest and at the latest."""
+    runs = board["told"][number]
+    span = board["spans"][number]
+    begins = places_that_fit(runs, cells[span[0]:span[1]:span[2]])["begins"]
+    return [(runs[2 * at], runs[2 * at + 1], (places & -places).bit_length() - 1, places.bit_length() - 1)
+            for at, places in enumerate(begins)]
+
+
+def cut_agrees(spreads, told_ahead):
+    """Whether the lines that a cut goes through can have ahead of it what the lines ahead of it are told."""
+    cut = len(told_ahead)
+    least = [0] * (MOST_COLOUR + 1)
+    most = [0] * (MOST_COLOUR + 1)
+    for spread in spreads:
+        for run in spread:
+            least[run[1]] += min(run[0], max(0, cut - run[3]))
+            most[run[1]] += min(run[0], max(0, cut - run[2]))
+    coloured = squares_coloured(told_ahead)
+    return all([least[colour] <= many and many <= most[colour] for colour, many in enumerate(coloured)])
 
 
 def count_up_to(board, cells, enough):
@@ -58,7 +101,7 @@ def count_up_to(board, cells, enough):
             return level["many"]
         else:
             levels.pop()
-            board["counts"][level["key"]] = level["many"]
+            keep(board["counts"], level["key"], level["many"])
             levels[-1]["many"] += level["many"]
 
 
@@ -71,11 +114,12 @@ def enter(board, levels, cells):
     if at == len(cells):
         level["many"] += 1
         return
-    key = key_of(board["width"], cells, at)
-    if key in board["counts"]:
-        level["many"] += board["counts"][key]
-        return
-    levels.append({"key": key, "at": at, "waiting": branches(board, cells, at), "many": 0})
+    key = key_of(board, cells, at)
+    many = kept(board["counts"], key)
+    if many is None:
+        levels.append({"key": key, "at": at, "waiting": branches(board, cells, at), "many": 0})
+    else:
+        level["many"] += many
 
 
 def branches(board, cells, at):
@@ -85,12 +129,16 @@ def branches(board, cells, at):
     return [branch for branch in found if branch is not None]
 
 
-def key_of(width, cells, at):
-    """All that the pictures hang on from an open cell on, if none is open ahead of it.
+def key_of(board, cells, at):
+    """All that the number of pictures hangs on, from an open cell on, if none is open ahead of it.
 
-    That is the cells from there on, and of each column how many blanks it has ahead: as its runs come in the order
-    told, this says how far they have come. Whether the last of them may touch the next is seen by the cells, and
-    how far the open row has come by all the columns together.
+    That is where this cell lies, how often its row or one behind it was changed for good, and of each column how many
+    blanks it has ahead: as its runs come in the order told, this says how far they have come. Whether the last of them
+    may touch the next is seen by its next cell, and how far the open row has come by all the columns together.
     """
-    blanks = [cells[column:at:width].count(BLANK) for column in range(width)]
-    return tuple(blanks + cells[at:])
+    width = board["width"]
+    key = [at, board["changes"][at // width]]
+    for place in range(at, at + width):
+        blanks = cells[place % width:at:width].count(BLANK)
+        key.append(2 * blanks + (1 if cells[place:place + 1] == [BLANK] else 0))
+    return tuple(key)

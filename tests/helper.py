@@ -119,6 +119,30 @@ def longest():
     return told(rows, columns)
 
 
+# One square coloured in each of two rows and columns: two pictures.
+EITHER = told([[(1, 1)], [(1, 1)]], [[(1, 1)], [(1, 1)]])
+
+
+def one_in_each(side):
+    """One square coloured in each row and column: as many pictures as the columns have orders."""
+    return told([[(1, 1)]] * side, [[(1, 1)]] * side)
+
+
+def shared_out(lines, each):
+    """Two long lines that share the coloured squares; behind every square that one of them has lies a blank."""
+    return [[(1, 1)] * each] * 2, [[(1, 1)], []] * lines
+
+
+def by_search(puzzle, cells):
+    """All the pictures that fit, in order, found by trying every row that fits with every other."""
+    height = puzzle[1]
+    lines = lines_of(puzzle)
+    rows = [[squares for squares in lines_allowed([cells[at] for at in places]) if runs_of(squares) == runs]
+            for runs, places in lines[:height]]
+    pictures = [[square for squares in picked for square in squares] for picked in itertools.product(*rows)]
+    return sorted(squares for squares in pictures if fits(puzzle, squares))
+
+
 def dice_picture(dice, width, height, colours, coloured):
     """Rows of squares thrown with dice, so many of a hundred coloured."""
     return [[dice.choice(colours) if dice.randrange(100) < coloured else 0 for column in range(width)]
@@ -134,3 +158,12 @@ def dice_cells(dice, squares, colours):
     if way == 1:
         return [1 << square | every & dice.randrange(256) for square in squares]
     return [every & dice.randrange(256) or every for square in squares]
+
+
+def dice_puzzle(dice, most_side, coloured):
+    """The puzzle of a small thrown picture, of one colour or two and one of these shares coloured, and its cells."""
+    width = dice.randint(1, most_side)
+    height = dice.randint(1, most_side)
+    colours = dice.sample(range(1, 8), dice.choice([1, 1, 2]))
+    rows = dice_picture(dice, width, height, colours, dice.choice(coloured))
+    return puzzle_of(rows), dice_cells(dice, [square for row in rows for square in row], colours)

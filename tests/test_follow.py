@@ -5,8 +5,8 @@ import random
 import unittest
 
 from runpictures.squares import follow, line
-from tests.helper import HandedIn, dice_cells, dice_picture, lines_allowed, lines_of, longest, pairs_of, puzzle_of
-from tests.helper import runs_of, told
+from tests.helper import HandedIn, dice_cells, dice_picture, dice_puzzle, lines_allowed, lines_of, longest, pairs_of
+from tests.helper import puzzle_of, runs_of, told
 
 # One square coloured in each of two rows and columns: nothing follows.
 EITHER = told([[(1, 1)], [(1, 1)]], [[(1, 1)], [(1, 1)]])
@@ -153,14 +153,10 @@ class AgainstSearch(unittest.TestCase):
         dice = random.Random(13)
         refused = 0
         for turn in range(1500):
-            width = dice.randint(1, 5)
-            height = dice.randint(1, 5)
-            colours = dice.sample(range(1, 8), dice.choice([1, 1, 2]))
-            rows = dice_picture(dice, width, height, colours, dice.choice([20, 40, 60, 80]))
-            cells = dice_cells(dice, [square for row in rows for square in row], colours)
-            answer = by_search(puzzle_of(rows), cells)
+            puzzle, cells = dice_puzzle(dice, 5, [20, 40, 60, 80])
+            answer = by_search(puzzle, cells)
             refused += answer == [-3]
-            self.assertEqual(follow(puzzle_of(rows), cells), answer, (rows, cells))
+            self.assertEqual(follow(puzzle, cells), answer, (puzzle, cells))
         self.assertTrue(100 < refused < 900, refused)
 
     def test_rows_of_one_picture_and_columns_of_another(self):

@@ -6,16 +6,8 @@ import random
 import unittest
 
 from runpictures.squares import follow, picture
-from tests.helper import HandedIn, dice_cells, dice_picture, fits, lines_allowed, lines_of, longest, pairs_of
-from tests.helper import puzzle_of, runs_of, told
-
-# One square coloured in each of two rows and columns: two pictures.
-EITHER = told([[(1, 1)], [(1, 1)]], [[(1, 1)], [(1, 1)]])
-
-
-def one_in_each(side):
-    """One square coloured in each row and column: as many pictures as the columns have orders."""
-    return told([[(1, 1)]] * side, [[(1, 1)]] * side)
+from tests.helper import EITHER, HandedIn, by_search, dice_cells, dice_picture, dice_puzzle, fits, longest
+from tests.helper import one_in_each, pairs_of, puzzle_of, shared_out, told
 
 
 def one_in_each_at(side, k):
@@ -27,11 +19,6 @@ def one_in_each_at(side, k):
         column = columns.pop(which)
         squares += [1 if at == column else 0 for at in range(side)]
     return squares
-
-
-def shared_out(lines, each):
-    """Two long lines that share the coloured squares; behind every square that one of them has lies a blank."""
-    return [[(1, 1)] * each] * 2, [[(1, 1)], []] * lines
 
 
 def shared_out_at(lines, each, k):
@@ -46,16 +33,6 @@ def shared_out_at(lines, each, k):
             k -= without
             each -= 1
     return squares
-
-
-def by_search(puzzle, cells):
-    """All the pictures that fit, in order, found by trying every row that fits with every other."""
-    height = puzzle[1]
-    lines = lines_of(puzzle)
-    rows = [[squares for squares in lines_allowed([cells[at] for at in places]) if runs_of(squares) == runs]
-            for runs, places in lines[:height]]
-    pictures = [[square for squares in picked for square in squares] for picked in itertools.product(*rows)]
-    return sorted(squares for squares in pictures if fits(puzzle, squares))
 
 
 class Ordinary(unittest.TestCase):
@@ -180,12 +157,8 @@ class AgainstSearch(unittest.TestCase):
         dice = random.Random(23)
         how_many = []
         for turn in range(1500):
-            width = dice.randint(1, 5)
-            height = dice.randint(1, 5)
-            colours = dice.sample(range(1, 8), dice.choice([1, 1, 2]))
-            rows = dice_picture(dice, width, height, colours, dice.choice([15, 30, 50, 70]))
-            cells = dice_cells(dice, [square for row in rows for square in row], colours)
-            how_many.append(self.compare(puzzle_of(rows), cells))
+            puzzle, cells = dice_puzzle(dice, 5, [15, 30, 50, 70])
+            how_many.append(self.compare(puzzle, cells))
         self.assertGreater(how_many.count(0), 100)
         self.assertGreater(how_many.count(1), 100)
         self.assertGreater(sum(1 for many in how_many if many > 1), 50)
