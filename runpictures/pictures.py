@@ -43,6 +43,12 @@ def cells_of_picture(board, cells, order, k):
     return cells
 
 
+def number_of_pictures(board, cells, most):
+    """How many pictures fit, but most where there are more."""
+    cells = looked_over(board, cells)
+    return 0 if cells is None else min(most, count_up_to(board, cells, most))
+
+
 def looked_over(board, cells):
     """What the lines leave of the cells; None if it is plain without a search that no picture fits."""
     found = settled(board, cells, board["numbers"])

@@ -2,7 +2,7 @@
 
 from runpictures.boards import board_of, is_open, settled
 from runpictures.lines import MOST_COLOUR, lines_that_fit, narrowed, squares_coloured
-from runpictures.pictures import cells_of_picture, narrow_board
+from runpictures.pictures import cells_of_picture, narrow_board, number_of_pictures
 
 MOST_SIDE = 64
 MOST_RUNS = 64
@@ -53,9 +53,7 @@ def follow(puzzle, cells):
 
 def picture(puzzle, cells, k):
     """The squares of the k-th picture that fits, from 0 on."""
-    if not within(k, 0, MOST_PICTURES):
-        return [-1]
-    fault = fault_of(puzzle, cells, MOST_SQUARES)
+    fault = fault_of_search(puzzle, cells, k)
     if fault < 0:
         return [fault]
     narrow = narrow_board(lines_told(puzzle), puzzle[0], puzzle[1], cells)
@@ -65,8 +63,22 @@ def picture(puzzle, cells, k):
     return [0, len(found)] + [found[place].bit_length() - 1 for place in narrow["order"]]
 
 
+def count(puzzle, cells, most):
+    """How many pictures fit, but most where there are more."""
+    fault = fault_of_search(puzzle, cells, most)
+    if fault < 0:
+        return [fault]
+    narrow = narrow_board(lines_told(puzzle), puzzle[0], puzzle[1], cells)
+    return [number_of_pictures(narrow["board"], narrow["cells"], most)]
+
+
 def within(number, low, high):
     return low <= number and number <= high
+
+
+def fault_of_search(puzzle, cells, number):
+    """What a search that goes on up to this number is refused with; 0 if it is not."""
+    return fault_of(puzzle, cells, MOST_SQUARES) if within(number, 0, MOST_PICTURES) else -1
 
 
 def fault_of(puzzle, cells, most):

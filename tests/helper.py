@@ -19,6 +19,8 @@ class HandedIn:
 
     FUNCTION = None
     CALLS = []
+    # Whether nothing stands behind the number that is answered first, be it a refusal or not.
+    ONE_NUMBER = False
 
     def answer(self, call):
         return type(self).FUNCTION(*call)
@@ -52,7 +54,7 @@ class HandedIn:
     def test_a_refusal_stands_alone(self):
         for call in self.CALLS:
             answer = self.answer(call)
-            self.assertEqual(len(answer) == 1, answer[0] < 0)
+            self.assertEqual(len(answer) == 1, answer[0] < 0 or self.ONE_NUMBER)
 
 
 def runs_of(squares):
@@ -167,3 +169,116 @@ def dice_puzzle(dice, most_side, coloured):
     colours = dice.sample(range(1, 8), dice.choice([1, 1, 2]))
     rows = dice_picture(dice, width, height, colours, dice.choice(coloured))
     return puzzle_of(rows), dice_cells(dice, [square for row in rows for square in row], colours)
+
+
+def mixed_puzzles(dice, turns):
+    """Puzzles that tell the rows of one thrown picture and the columns of another, and cells that allow all."""
+    for turn in range(turns):
+        width = dice.randint(2, 4)
+        height = dice.randint(2, 4)
+        rows = [pairs_of(row) for row in dice_picture(dice, width, height, [1, 2], 40)]
+        columns = [pairs_of(column) for column in zip(*dice_picture(dice, width, height, [1, 2], 40))]
+        yield told(rows, columns), [7] * (width * height)
+
+
+def shuffled_puzzles(dice, turns):
+    """Puzzles that tell as many squares of each colour by the rows as by the columns, and yet often no picture fits."""
+    for turn in range(turns):
+        width = dice.randint(3, 5)
+        rows = dice_picture(dice, width, 4, [1, 2], 50)
+        columns = [pairs_of(column) for column in zip(*rows)]
+        dice.shuffle(columns)
+        yield told([pairs_of(row) for row in rows], columns), [7] * (4 * width)
+
+
+def long_puzzles(dice, turns):
+    """Puzzles of thrown pictures that are far wider than high, or higher than wide, and their cells."""
+    for turn in range(turns):
+        for width, height in ((8, 2), (2, 8), (7, 3), (3, 7)):
+            rows = dice_picture(dice, width, height, [4], 30)
+            yield puzzle_of(rows), dice_cells(dice, [square for row in rows for square in row], [4])
+
+
+class RefusedSearches:
+    """What picture and count refuse, and in which order: for a test case that names one of them, as FUNCTION."""
+
+    FUNCTION = None
+
+    def refused(self, puzzle, cells, refusal, numbers=(0, 1, 1000000)):
+        for number in numbers:
+            answer = type(self).FUNCTION(puzzle, cells, number)
+            self.assertEqual(answer, [refusal], (puzzle[:20], cells[:20], number))
+
+    def test_numbers_out_of_range(self):
+        for size in (2, 12):
+            for number in (-1, 1000001, -2147483648, 2147483647):
+                self.refused(one_in_each(size), [3] * (size * size), -1, [number])
+
+    def test_how_many_bytes_the_puzzle_has(self):
+        self.refused([], [3] * 4, -1)
+        self.refused([1] * 16385, [3] * 4, -1)
+        self.refused(longest() + [0], [3] * 4096, -1)
+        self.refused([1] * 16384, [3] * 4, -2)
+        self.refused(longest(), [3] * 4096, -6)
+
+    def test_how_many_cells_there_are(self):
+        self.refused(EITHER, [3] * 16385, -1)
+        self.refused(EITHER, [3] * 16400, -1)
+        self.refused(EITHER, [3] * 3, -5)
+        self.refused(EITHER, [], -5)
+        self.refused(one_in_each(12), [3] * 143, -5)
+
+    def test_a_puzzle_that_is_not_as_told(self):
+        for puzzle in ([1], [0, 1, 0], [1, 0, 0], [65, 1] + [0] * 66, [1, 65] + [0] * 66, [1, 1, 0], [1, 1, 0, 0, 0],
+                       [1, 1, 1, 0, 1, 0], [1, 1, 1, 65, 1, 0], [1, 1, 0, 1, 1, 0], [1, 1, 0, 1, 1, 8],
+                       [1, 1, 0, 1, 1], EITHER[:-1], EITHER + [0]):
+            self.refused(puzzle, [3] * 4096, -2)
+
+    def test_more_than_144_squares(self):
+        for width, height in ((29, 5), (5, 29), (64, 3), (3, 64), (13, 12), (12, 13), (64, 64)):
+            self.refused(puzzle_of([[4] * width] * height), [255] * (width * height), -6)
+
+    def test_a_cell_without_a_bit(self):
+        for at in range(4):
+            cells = [3] * 4
+            cells[at] = 0
+            self.refused(EITHER, cells, -2)
+            self.refused(EITHER, cells + [3], -2)
+        self.refused(one_in_each(12), [3] * 143 + [0], -2)
+
+    def test_numbers_out_of_range_come_before_a_puzzle_that_is_not_as_told(self):
+        for puzzle, cells in (([0, 0], [3]), (EITHER, [3]), ([64, 64] + [0] * 128, [3] * 4096), (EITHER, [0] * 4),
+                              (told([[(1, 1)]], [[]]), [3])):
+            self.refused(puzzle, cells, -1, (-1, 1000001))
+        self.refused([0, 0], [3] * 16385, -1)
+        self.refused([0] * 16385, [3], -1)
+        self.refused([], [], -1)
+        self.refused(EITHER, [0] * 16385, -1)
+        self.refused([64, 64] + [0] * 128, [0] * 16385, -1)
+
+    def test_a_puzzle_that_is_not_as_told_comes_before_too_few_cells(self):
+        self.refused([0, 0], [], -2)
+        self.refused(EITHER + [0], [3], -2)
+        self.refused([1, 1, 1, 1, 8, 0], [], -2)
+
+    def test_a_puzzle_that_is_not_as_told_comes_before_too_many_squares(self):
+        self.refused([64, 64] + [0] * 127, [3] * 4096, -2)
+        self.refused([64, 64] + [0] * 129, [3] * 4096, -2)
+
+    def test_too_few_cells_come_before_too_many_squares(self):
+        self.refused([64, 64] + [0] * 128, [3] * 4095, -5)
+        self.refused([29, 5] + [0] * 34, [3] * 144, -5)
+        self.refused([29, 5] + [0] * 34, [3] * 145, -6)
+        self.refused([29, 5] + [0] * 34, [], -5)
+
+    def test_too_few_cells_come_before_cells_that_are_not_as_told(self):
+        self.refused(EITHER, [0] * 3, -5)
+
+    def test_too_many_squares_come_before_cells_that_are_not_as_told(self):
+        self.refused([29, 5] + [0] * 34, [0] * 145, -6)
+        self.refused([64, 64] + [0] * 128, [3] * 4095 + [0], -6)
+
+    def test_refusals_come_before_none_fits(self):
+        self.refused([29, 5] + [0] * 34, [2] * 145, -6)
+        self.refused([1, 1, 1, 2, 1, 0], [0], -2)
+        self.refused(told([[(1, 1)]] * 4, [[(1, 1)]] * 5), [3] * 19 + [0], -2)

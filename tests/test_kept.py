@@ -8,9 +8,8 @@ import unittest
 from unittest import mock
 
 from runpictures import boards, pictures
-from runpictures.squares import picture
-from tests.helper import EITHER, by_search, dice_picture, dice_puzzle, one_in_each, pairs_of, puzzle_of, shared_out
-from tests.helper import told
+from runpictures.squares import count, picture
+from tests.helper import EITHER, by_search, dice_puzzle, one_in_each, puzzle_of, shared_out, shuffled_puzzles, told
 
 # Nothing; nothing, as half of it is none; next to nothing; some; and all that these small puzzles find.
 BOUNDS = (0, 1, 2, 3, 8, 60, 1000000)
@@ -51,7 +50,9 @@ class WithinTheBound(unittest.TestCase):
         """The sizes seen while all of a puzzle's pictures are counted, of the counts and of the lines."""
         with bound(counts, lines), sizes_seen() as seen:
             for puzzle in (one_in_each(6), told(*shared_out(12, 6))):
-                self.assertEqual(picture(puzzle, [3] * (puzzle[0] * puzzle[1]), 1000), [-3])
+                cells = [3] * (puzzle[0] * puzzle[1])
+                self.assertEqual(picture(puzzle, cells, 1000), [-3])
+                self.assertLess(count(puzzle, cells, 1000)[0], 1000)
         return seen[counts // 2], seen[lines // 2]
 
     def test_what_is_kept_stays_within_the_bound(self):
@@ -105,13 +106,15 @@ class TheStore(unittest.TestCase):
 
 class TheSameAnswers(unittest.TestCase):
     def compare(self, puzzle, cells, counts, lines):
-        """Holds every picture, and the two that would come behind the last, against a plain search."""
+        """Holds every picture, the two that would come behind the last, and the count against a plain search."""
         found = by_search(puzzle, cells)
         with bound(counts, lines):
             for k, squares in enumerate(found):
                 self.assertEqual(picture(puzzle, cells, k), [0, len(squares)] + squares, (puzzle, cells, k, counts))
             self.assertEqual(picture(puzzle, cells, len(found)), [-3], (puzzle, cells, counts))
             self.assertEqual(picture(puzzle, cells, len(found) + 1), [-3], (puzzle, cells, counts))
+            for most in (0, 1, len(found), len(found) + 1, 1000000):
+                self.assertEqual(count(puzzle, cells, most), [min(most, len(found))], (puzzle, cells, most, counts))
         return len(found)
 
     def test_one_picture_several_and_none(self):
@@ -142,13 +145,8 @@ class TheSameAnswers(unittest.TestCase):
 
     def test_columns_in_another_order(self):
         dice = random.Random(32)
-        for turn in range(200):
-            width = dice.randint(3, 5)
-            rows = dice_picture(dice, width, 4, [1, 2], 50)
-            columns = [pairs_of(column) for column in zip(*rows)]
-            dice.shuffle(columns)
-            puzzle = told([pairs_of(row) for row in rows], columns)
-            self.compare(puzzle, [7] * (4 * width), dice.choice(BOUNDS), dice.choice(BOUNDS))
+        for puzzle, cells in shuffled_puzzles(dice, 200):
+            self.compare(puzzle, cells, dice.choice(BOUNDS), dice.choice(BOUNDS))
 
     def test_a_large_puzzle(self):
         for k in (0, 1000, 1000000):
@@ -156,6 +154,7 @@ class TheSameAnswers(unittest.TestCase):
             for counts, lines in ((3000, 500), (20000, 100)):
                 with bound(counts, lines):
                     self.assertEqual(picture(one_in_each(12), [3] * 144, k), kept_all)
+                    self.assertEqual(count(one_in_each(12), [3] * 144, k), [k])
 
 
 class SeenWithoutASearch(unittest.TestCase):
@@ -164,6 +163,7 @@ class SeenWithoutASearch(unittest.TestCase):
     def refused(self, puzzle, cells):
         with mock.patch.object(pictures, "count_up_to", side_effect=AssertionError("a search was begun")):
             self.assertEqual(picture(puzzle, cells, 0), [-3])
+            self.assertEqual(count(puzzle, cells, 1000000), [0])
 
     def test_very_much_to_look_through(self):
         self.refused([12, 12] + [4, 1, 1, 1, 1, 1, 2, 1, 1] * 12 + ([4] + [1, 1] * 4) * 2 + ([3] + [1, 1] * 3) * 5

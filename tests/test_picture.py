@@ -6,8 +6,8 @@ import random
 import unittest
 
 from runpictures.squares import follow, picture
-from tests.helper import EITHER, HandedIn, by_search, dice_cells, dice_picture, dice_puzzle, fits, longest
-from tests.helper import one_in_each, pairs_of, puzzle_of, shared_out, told
+from tests.helper import EITHER, HandedIn, RefusedSearches, by_search, dice_picture, dice_puzzle, fits, long_puzzles
+from tests.helper import mixed_puzzles, one_in_each, puzzle_of, shared_out, shuffled_puzzles, told
 
 
 def one_in_each_at(side, k):
@@ -175,32 +175,16 @@ class AgainstSearch(unittest.TestCase):
             self.compare(puzzle, [7] * (puzzle[0] * puzzle[1]))
 
     def test_rows_of_one_picture_and_columns_of_another(self):
-        dice = random.Random(24)
-        for turn in range(500):
-            width = dice.randint(2, 4)
-            height = dice.randint(2, 4)
-            one = [pairs_of(row) for row in dice_picture(dice, width, height, [1, 2], 40)]
-            other = [pairs_of(column) for column in zip(*dice_picture(dice, width, height, [1, 2], 40))]
-            self.compare(told(one, other), [7] * (width * height))
+        for puzzle, cells in mixed_puzzles(random.Random(24), 500):
+            self.compare(puzzle, cells)
 
     def test_columns_in_another_order(self):
-        # As many squares of each colour by the rows as by the columns, and yet often no picture.
-        dice = random.Random(25)
-        none = 0
-        for turn in range(400):
-            rows = dice_picture(dice, 4, 4, [1, 2], 50)
-            columns = [pairs_of(column) for column in zip(*rows)]
-            dice.shuffle(columns)
-            none += self.compare(told([pairs_of(row) for row in rows], columns), [7] * 16) == 0
-        self.assertGreater(none, 50)
+        how_many = [self.compare(puzzle, cells) for puzzle, cells in shuffled_puzzles(random.Random(25), 400)]
+        self.assertGreater(how_many.count(0), 50)
 
     def test_one_long_side(self):
-        dice = random.Random(26)
-        for turn in range(40):
-            for width, height in ((8, 2), (2, 8), (7, 3), (3, 7)):
-                rows = dice_picture(dice, width, height, [4], 30)
-                cells = dice_cells(dice, [square for row in rows for square in row], [4])
-                self.compare(puzzle_of(rows), cells)
+        for puzzle, cells in long_puzzles(random.Random(26), 40):
+            self.compare(puzzle, cells)
 
 
 class FarOn(unittest.TestCase):
@@ -267,23 +251,16 @@ class NoMore(unittest.TestCase):
 class Edges(unittest.TestCase):
     def test_the_least_and_the_highest_k(self):
         self.assertEqual(picture(EITHER, [3] * 4, 0)[0], 0)
-        self.assertEqual(picture(EITHER, [3] * 4, -1), [-1])
-        self.assertEqual(picture(EITHER, [3] * 4, -2147483648), [-1])
-        self.assertEqual(picture(one_in_each(12), [3] * 144, 1000000)[0], 0)
-        self.assertEqual(picture(one_in_each(12), [3] * 144, 1000001), [-1])
-        self.assertEqual(picture(one_in_each(12), [3] * 144, 2147483647), [-1])
         self.assertEqual(picture(EITHER, [3] * 4, 1000000), [-3])
-        self.assertEqual(picture(EITHER, [3] * 4, 1000001), [-1])
+        self.assertEqual(picture(one_in_each(12), [3] * 144, 0)[0], 0)
+        self.assertEqual(picture(one_in_each(12), [3] * 144, 1000000)[0], 0)
 
-    def test_144_squares_and_more(self):
+    def test_144_squares(self):
         for width, height in ((12, 12), (16, 9), (9, 16), (48, 3), (3, 48), (36, 4), (64, 2), (2, 64)):
             size = width * height
             puzzle = puzzle_of([[4] * width] * height)
             self.assertEqual(picture(puzzle, [255] * size, 0), [0, size] + [4] * size)
             self.assertEqual(picture(puzzle, [255] * size, 1), [-3])
-        for width, height in ((29, 5), (5, 29), (64, 3), (3, 64), (13, 12), (12, 13), (64, 64)):
-            puzzle = puzzle_of([[4] * width] * height)
-            self.assertEqual(picture(puzzle, [255] * (width * height), 0), [-6])
 
     def test_sides_of_1(self):
         self.assertEqual(picture([1, 1, 0, 0], [255], 0), [0, 1, 0])
@@ -319,79 +296,10 @@ class Edges(unittest.TestCase):
 
     def test_as_many_cells_as_there_may_be(self):
         self.assertEqual(picture(EITHER, [3] * 16384, 0), [0, 4, 0, 1, 1, 0])
-        self.assertEqual(picture(EITHER, [3] * 16385, 0), [-1])
-        self.assertEqual(picture(EITHER, [3] * 16400, 0), [-1])
-
-    def test_as_many_cells_as_squares_and_one_less(self):
-        self.assertEqual(picture(EITHER, [3] * 4, 0)[0], 0)
-        self.assertEqual(picture(EITHER, [3] * 3, 0), [-5])
-        self.assertEqual(picture(EITHER, [], 0), [-5])
-        self.assertEqual(picture(one_in_each(12), [3] * 143, 0), [-5])
 
 
-class Refusals(unittest.TestCase):
-    def test_how_many_bytes_the_puzzle_has(self):
-        self.assertEqual(picture([], [3] * 4, 0), [-1])
-        self.assertEqual(picture([1] * 16385, [3] * 4, 0), [-1])
-        self.assertEqual(picture(longest() + [0], [3] * 4096, 0), [-1])
-        self.assertEqual(picture([1] * 16384, [3] * 4, 0), [-2])
-
-    def test_a_puzzle_that_is_not_as_told(self):
-        for puzzle in ([1], [0, 1, 0], [1, 0, 0], [65, 1] + [0] * 66, [1, 65] + [0] * 66, [1, 1, 0], [1, 1, 0, 0, 0],
-                       [1, 1, 1, 0, 1, 0], [1, 1, 1, 65, 1, 0], [1, 1, 0, 1, 1, 0], [1, 1, 0, 1, 1, 8],
-                       [1, 1, 0, 1, 1], EITHER[:-1], EITHER + [0]):
-            self.assertEqual(picture(puzzle, [3] * 4096, 0), [-2], puzzle)
-
-    def test_a_cell_without_a_bit(self):
-        for at in range(4):
-            cells = [3] * 4
-            cells[at] = 0
-            self.assertEqual(picture(EITHER, cells, 0), [-2])
-            self.assertEqual(picture(EITHER, cells + [3], 0), [-2])
-        self.assertEqual(picture(one_in_each(12), [3] * 143 + [0], 0), [-2])
-
-    def test_numbers_out_of_range_come_before_a_puzzle_that_is_not_as_told(self):
-        for k in (-1, 1000001):
-            self.assertEqual(picture([0, 0], [3], k), [-1])
-            self.assertEqual(picture(EITHER, [3], k), [-1])
-            self.assertEqual(picture([64, 64] + [0] * 128, [3] * 4096, k), [-1])
-            self.assertEqual(picture(EITHER, [0] * 4, k), [-1])
-            self.assertEqual(picture(told([[(1, 1)]], [[]]), [3], k), [-1])
-        self.assertEqual(picture([0, 0], [3] * 16385, 0), [-1])
-        self.assertEqual(picture([0] * 16385, [3], 0), [-1])
-        self.assertEqual(picture([], [], 0), [-1])
-        self.assertEqual(picture(EITHER, [0] * 16385, 0), [-1])
-        self.assertEqual(picture([64, 64] + [0] * 128, [0] * 16385, 0), [-1])
-
-    def test_a_puzzle_that_is_not_as_told_comes_before_too_few_cells(self):
-        self.assertEqual(picture([0, 0], [], 0), [-2])
-        self.assertEqual(picture(EITHER + [0], [3], 0), [-2])
-        self.assertEqual(picture([1, 1, 1, 1, 8, 0], [], 0), [-2])
-
-    def test_a_puzzle_that_is_not_as_told_comes_before_too_many_squares(self):
-        self.assertEqual(picture([64, 64] + [0] * 127, [3] * 4096, 0), [-2])
-        self.assertEqual(picture([64, 64] + [0] * 129, [3] * 4096, 0), [-2])
-
-    def test_too_few_cells_come_before_too_many_squares(self):
-        self.assertEqual(picture([64, 64] + [0] * 128, [3] * 4095, 0), [-5])
-        self.assertEqual(picture([29, 5] + [0] * 34, [3] * 144, 0), [-5])
-        self.assertEqual(picture([29, 5] + [0] * 34, [3] * 145, 0), [-6])
-        self.assertEqual(picture([29, 5] + [0] * 34, [], 0), [-5])
-
-    def test_too_few_cells_come_before_cells_that_are_not_as_told(self):
-        self.assertEqual(picture(EITHER, [0] * 3, 0), [-5])
-
-    def test_too_many_squares_come_before_cells_that_are_not_as_told(self):
-        self.assertEqual(picture([29, 5] + [0] * 34, [0] * 145, 0), [-6])
-        self.assertEqual(picture([64, 64] + [0] * 128, [3] * 4095 + [0], 0), [-6])
-
-    def test_too_many_squares_come_before_none_fits(self):
-        self.assertEqual(picture([29, 5] + [0] * 34, [2] * 145, 0), [-6])
-
-    def test_cells_that_are_not_as_told_come_before_none_fits(self):
-        self.assertEqual(picture([1, 1, 1, 2, 1, 0], [0], 0), [-2])
-        self.assertEqual(picture(EITHER, [3, 3, 3, 0], 5), [-2])
-        self.assertEqual(picture(told([[(1, 1)]] * 4, [[(1, 1)]] * 5), [3] * 19 + [0], 0), [-2])
+class Refusals(RefusedSearches, unittest.TestCase):
+    FUNCTION = picture
 
 
 class TheLists(HandedIn, unittest.TestCase):
