@@ -63,12 +63,13 @@ def settled(board, cells, numbers):
                 found = line_found(board, number, before)
             if not found:
                 return None
-            if found != before:
-                cells[span[0]:span[1]:span[2]] = found
-                first_across = board["height"] if number < board["height"] else 0
-                for place, cell in enumerate(found):
-                    if cell != before[place]:
-                        touched[first_across + place] = True
+            if found == before:
+                continue
+            first_across = board["height"] if number < board["height"] else 0
+            for place, cell in enumerate(found):
+                if cell != before[place]:
+                    cells[span[0] + place * span[2]] = cell
+                    touched[first_across + place] = True
         numbers = list(touched)
     return cells
 

@@ -3,6 +3,19 @@
 MOST_COLOUR = 7
 
 
+def runs_of(squares):
+    """The runs of a line: of each its length, then its colour."""
+    runs = []
+    before = 0
+    for square in squares:
+        if square > 0 and square == before:
+            runs[-2] += 1
+        elif square > 0:
+            runs.extend([1, square])
+        before = square
+    return runs
+
+
 def apart(runs, at):
     """Whether a blank must lie between a run and the one ahead of it."""
     return 0 < at and at < len(runs) and runs[at - 1] == runs[at + 1]

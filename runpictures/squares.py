@@ -1,7 +1,7 @@
 """What can be known of the squares of a picture that is told by its runs."""
 
 from runpictures.boards import board_of, is_open, settled
-from runpictures.lines import MOST_COLOUR, lines_that_fit, narrowed, squares_coloured
+from runpictures.lines import MOST_COLOUR, lines_that_fit, narrowed, runs_of, squares_coloured
 from runpictures.pictures import cells_of_picture, narrow_board, number_of_pictures
 
 MOST_SIDE = 64
@@ -72,6 +72,20 @@ def count(puzzle, cells, most):
     return [number_of_pictures(narrow["board"], narrow["cells"], most)]
 
 
+def tell(squares, sides, most):
+    """How long the puzzle is that a picture's squares make, and its bytes."""
+    width = sides[0]
+    height = sides[1]
+    if not within(width, 1, MOST_SIDE) or not within(height, 1, MOST_SIDE) or not within(most, 0, MOST_BYTES):
+        return [-1]
+    if len(squares) != width * height or not all([within(square, 0, MOST_COLOUR) for square in squares]):
+        return [-2]
+    puzzle = puzzle_made(squares, width, height)
+    if len(puzzle) > most:
+        return [-4]
+    return [len(puzzle), len(puzzle)] + puzzle
+
+
 def within(number, low, high):
     return low <= number and number <= high
 
@@ -121,3 +135,15 @@ def lines_told(puzzle):
         told.append(runs)
         start = end
     return told if start == len(puzzle) else None
+
+
+def puzzle_made(squares, width, height):
+    """What is told of each row, then of each column, behind the two sides."""
+    rows = [squares[row * width:row * width + width] for row in range(height)]
+    columns = [squares[column::width] for column in range(width)]
+    puzzle = [width, height]
+    for squares_of_line in rows + columns:
+        runs = runs_of(squares_of_line)
+        puzzle.append(len(runs) // 2)
+        puzzle.extend(runs)
+    return puzzle
